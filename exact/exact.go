@@ -34,6 +34,9 @@ func RoundUp(num, den int) int {
 	return quotient
 }
 
+// RoundDown returns num / den, rounded down; den is above 0.
+func RoundDown(num, den int) int { return -RoundUp(-num, den) }
+
 func commonDivisor(a, b int) int {
 	for b != 0 {
 		a, b = b, a%b

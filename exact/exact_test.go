@@ -63,3 +63,13 @@ func TestRoundUp(t *testing.T) {
 		}
 	}
 }
+
+func TestRoundDown(t *testing.T) {
+	for i, c := range []struct{ num, den, want int }{
+		{0, 3, 0}, {1, 3, 0}, {2, 3, 0}, {3, 3, 1}, {4, 3, 1}, {-1, 3, -1}, {-3, 3, -1}, {-4, 3, -2}, {7, 1, 7},
+	} {
+		if got := exact.RoundDown(c.num, c.den); got != c.want {
+			t.Error(i, got)
+		}
+	}
+}
