@@ -18,6 +18,20 @@ func ValidSpan(s api.Span, low, high int) bool {
 	return low <= s.Low && s.Low <= s.High && s.High <= high
 }
 
+// ValidSpans reports whether all spans are valid from low to high.
+func ValidSpans(low, high int, spans ...api.Span) bool {
+	wrong := func(s api.Span) bool { return !ValidSpan(s, low, high) }
+	return !slices.ContainsFunc(spans, wrong)
+}
+
+// Common returns the integers that all spans share; there are none if its Low is above its High.
+func Common(s api.Span, others ...api.Span) api.Span {
+	for _, o := range others {
+		s.Low, s.High = max(s.Low, o.Low), min(s.High, o.High)
+	}
+	return s
+}
+
 // Ratio returns num / den in lowest terms; den is above 0.
 func Ratio(num, den int) api.Ratio {
 	divisor := commonDivisor(max(num, -num), den)

@@ -43,6 +43,39 @@ func TestValidSpan(t *testing.T) {
 	}
 }
 
+func TestValidSpans(t *testing.T) {
+	whole, low, high := api.Span{Low: -5, High: 7}, api.Span{Low: -6, High: 7}, api.Span{Low: -5, High: 8}
+	for i, c := range []struct {
+		spans []api.Span
+		want  bool
+	}{
+		{nil, true}, {[]api.Span{whole}, true}, {[]api.Span{whole, {}, whole}, true},
+		{[]api.Span{low}, false}, {[]api.Span{low, whole}, false}, {[]api.Span{whole, high}, false}, {[]api.Span{{}, {Low: 1}, {}}, false},
+	} {
+		if got := exact.ValidSpans(-5, 7, c.spans...); got != c.want {
+			t.Error(i, got)
+		}
+	}
+}
+
+func TestCommon(t *testing.T) {
+	span := func(low, high int) api.Span { return api.Span{Low: low, High: high} }
+	for i, c := range []struct {
+		first  api.Span
+		others []api.Span
+		want   api.Span
+	}{
+		{span(-5, 7), nil, span(-5, 7)}, {span(-5, 7), []api.Span{span(-9, 9)}, span(-5, 7)}, {span(-5, 7), []api.Span{span(-4, 9)}, span(-4, 7)}, {span(-5, 7), []api.Span{span(-6, 6)}, span(-5, 6)},
+		{span(-5, 7), []api.Span{span(1, 2)}, span(1, 2)}, {span(-5, 7), []api.Span{span(0, 9), span(-9, 3)}, span(0, 3)}, {span(-5, 7), []api.Span{span(7, 9)}, span(7, 7)},
+		// Nothing is in both.
+		{span(-5, 7), []api.Span{span(8, 9)}, span(8, 7)}, {span(-5, 7), []api.Span{span(3, 9), span(-9, 2)}, span(3, 2)},
+	} {
+		if got := exact.Common(c.first, c.others...); got != c.want {
+			t.Error(i, got)
+		}
+	}
+}
+
 func TestRatio(t *testing.T) {
 	for i, c := range []struct{ num, den, wantNum, wantDen int }{
 		{0, 5, 0, 1}, {0, 1, 0, 1}, {6, 4, 3, 2}, {-6, 4, -3, 2}, {-6, 3, -2, 1},

@@ -59,7 +59,7 @@ func cut(errors []api.Span, limit int) ([]api.LeadNotch, api.Errno) {
 		if here.Low > here.High {
 			return nil, api.ErrNone
 		}
-		right = common(right, here)
+		right = exact.Common(right, here)
 		if right.Low > right.High {
 			notches, right = append(notches, api.LeadNotch{From: step}), here
 		}
