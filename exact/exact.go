@@ -1,4 +1,4 @@
-// Package exact computes with the integers, spans and ratios of DOC.md's sections Terms and Rules, which all layers share.
+// Package exact computes with the integers, spans, heights and ratios of DOC.md's sections Terms and Rules, which all layers share.
 package exact
 
 import (

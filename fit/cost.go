@@ -23,7 +23,7 @@ func Cost(f api.ThreadForm, r api.FitRules, turns int, depth api.Span) (api.Span
 	if form.leans == 0 {
 		return api.Span{}, api.ErrNone
 	}
-	return form.sizes(r, turns, heights{depth}), api.OK
+	return form.sizes(r, turns, exact.Heights{Span: depth}), api.OK
 }
 
 func validRules(r api.FitRules) bool {
@@ -34,11 +34,11 @@ func validRules(r api.FitRules) bool {
 }
 
 // sizes returns the least and the greatest size of a screw within rules. What steps, widths and leans need adds up, and no screw needs more, or less, of them than one whose steps are all the same, and whose widths are.
-func (i ideal) sizes(r api.FitRules, turns int, over heights) api.Span {
+func (i ideal) sizes(r api.FitRules, turns int, over exact.Heights) api.Span {
 	steps := needs(r.Step, 0, func(step int) int { return 1000 * (turns - 1) * max(step, -step) })
 	widths := needs(r.Thick, r.Thick.Low, func(width int) int { return 1000 * width })
-	lefts := needs(r.Left, i.Left, func(lean int) int { return over.overlap(lean, i.Left) })
-	rights := needs(r.Right, i.Right, func(lean int) int { return over.overlap(lean, i.Right) })
+	lefts := needs(r.Left, i.Left, func(lean int) int { return over.Overlap(lean, i.Left) })
+	rights := needs(r.Right, i.Right, func(lean int) int { return over.Overlap(lean, i.Right) })
 	end := func(need int) int { return exact.RoundUp(need-500*i.Pitch, i.leans) }
 	return api.Span{
 		Low:  end(steps.Low + widths.Low + lefts.Low + rights.Low),

@@ -4,6 +4,7 @@ import (
 	"slices"
 
 	"acme/api"
+	"acme/exact"
 )
 
 // Goers returns which screws go into which nuts.
@@ -31,5 +32,5 @@ func Goers(screws, nuts []api.FitThread, depth api.Span) ([][2]int, api.Errno) {
 
 // fits reports whether a screw goes into a nut with as many turns; both and the depth are valid.
 func fits(screw, nut api.FitThread, depth api.Span) bool {
-	return mesh{heights{depth}, pieceOf(screw), pieceOf(nut)}.wholeRoom() >= 0
+	return mesh{exact.Heights{Span: depth}, pieceOf(screw), pieceOf(nut)}.wholeRoom() >= 0
 }

@@ -57,7 +57,7 @@ func Screw(f api.ThreadForm, t api.FitThread, depth api.Span) (int, api.Errno) {
 		return 0, e
 	}
 	// Each unit of size moves both flanks of all grooves apart by their leans.
-	room := mesh{heights{depth}, pieceOf(t), form.perfect(len(t.Turns))}.wholeRoom()
+	room := mesh{exact.Heights{Span: depth}, pieceOf(t), form.perfect(len(t.Turns))}.wholeRoom()
 	return exact.RoundUp(-room, form.leans), api.OK
 }
 
@@ -67,6 +67,6 @@ func Nut(f api.ThreadForm, t api.FitThread, depth api.Span) (int, api.Errno) {
 	if e != api.OK {
 		return 0, e
 	}
-	room := mesh{heights{depth}, form.perfect(len(t.Turns)), pieceOf(t)}.wholeRoom()
+	room := mesh{exact.Heights{Span: depth}, form.perfect(len(t.Turns)), pieceOf(t)}.wholeRoom()
 	return exact.RoundDown(room, form.leans), api.OK
 }

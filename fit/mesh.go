@@ -8,17 +8,9 @@ import (
 	"acme/exact"
 )
 
-// heights are those of a depth.
-type heights struct{ api.Span }
-
-// overlap returns how far a flank of a screw sticks out over one of a nut, if both are at the same place at the pitch line, in thousandths of a unit; below 0, it stays away. Flanks are straight, so it is farthest at one end of the depth.
-func (h heights) overlap(screwLean, nutLean int) int {
-	return max(h.Low*(nutLean-screwLean), h.High*(nutLean-screwLean))
-}
-
 // mesh is a screw and a nut whose flanks can touch at the heights of a depth.
 type mesh struct {
-	heights
+	exact.Heights
 	screw, nut piece
 }
 
@@ -27,7 +19,7 @@ func meshOf(screw, nut api.FitThread, depth api.Span) (mesh, api.Errno) {
 	if e := checkAll(depth, screw, nut); e != api.OK {
 		return mesh{}, e
 	}
-	return mesh{heights{depth}, pieceOf(screw), pieceOf(nut)}, api.OK
+	return mesh{exact.Heights{Span: depth}, pieceOf(screw), pieceOf(nut)}, api.OK
 }
 
 // step is so many teeth, at least one, in as many grooves, from a tooth and a groove on.
@@ -64,7 +56,7 @@ func (m mesh) shifts(s step) (first, last int) {
 		first = max(first, groove.left-tooth.left)
 		last = min(last, groove.right-tooth.right)
 	}
-	return first + m.overlap(m.screw.left, m.nut.left), last - m.overlap(m.screw.right, m.nut.right)
+	return first + m.Overlap(m.screw.left, m.nut.left), last - m.Overlap(m.screw.right, m.nut.right)
 }
 
 // room returns by how much the flanks of the nut could be nearer to one another with the teeth of a step still in their grooves; below 0, they do not lie in them.

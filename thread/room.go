@@ -18,15 +18,12 @@ func Room(a, b api.ThreadForm, depth api.Span) (int, api.Errno) {
 	if screw.Pitch != nut.Pitch || !screw.turnsLike(nut) {
 		return 0, api.ErrState
 	}
-	if !exact.ValidSpan(depth, -api.MaxThreadDepth, api.MaxThreadDepth) {
+	over := exact.Heights{Span: depth}
+	if !over.Valid() {
 		return 0, api.ErrRange
 	}
-	// Flanks are straight, so they are farthest in the way at one end of the depth.
-	overlap := func(screwLean, nutLean int) int {
-		return max(depth.Low*(nutLean-screwLean), depth.High*(nutLean-screwLean))
-	}
 	// A shift along the axis gives one flank what it takes from the other, so only the sum counts.
-	need := overlap(screw.Left, nut.Left) + overlap(screw.Right, nut.Right)
+	need := over.Overlap(screw.Left, nut.Left) + over.Overlap(screw.Right, nut.Right)
 	if need <= 0 {
 		return 0, api.OK
 	}
